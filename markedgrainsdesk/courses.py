@@ -6,6 +6,9 @@ again. Each whole flow within the ways' bounds is a course, and each course is s
 """
 
 OUTSIDE = 0
+# The tanks of a set let their marked grains out to here while that set is asked about.
+GATHERED = 1
+FIRST_TANK = 2
 
 
 class Courses:
@@ -14,17 +17,20 @@ class Courses:
     Ways stand in pairs: way ^ 1 is the same way backward. The room of a way is how many marked
     grains more may go along it than by the course at hand, that of its backward way how many
     fewer; so a way's bounds are in its two rooms and need not be kept beside them.
-    A tank's outlet is the way by which its marked grains of now count as gone outside.
+    A tank's outlet is the way by which its marked grains of now count as gone outside; the ways
+    from the outside are the comings in, with the least that come along each in leasts.
+    What was learned of the most and least in sets of tanks is in highest and lowest.
     """
 
     def __init__(self, tanks):
         self.goals = []
         self.rooms = []
-        self.ways = [[]]
+        self.ways = [[], []]
         self.outlets = []
+        self.leasts = {}
         self.highest = {}
         self.lowest = {}
-        for place in range(1, tanks + 1):
+        for place in range(FIRST_TANK, FIRST_TANK + tanks):
             self.ways.append([])
             self.outlets.append(self.add_way(place, OUTSIDE, 0, 0))
 
@@ -58,10 +64,12 @@ class Courses:
         self.rooms[outlet ^ 1] = marked
 
     def come_in(self, tank, amount, least, most):
-        """Grains come in; the course at hand goes on with as few marked ones as may be."""
+        """Grains come in, by the course at hand as few marked ones as may be: their way."""
         self.forget_limits()
-        self.add_way(OUTSIDE, self.place_of(tank), most - least, 0)
+        way = self.add_way(OUTSIDE, self.place_of(tank), most - least, 0)
+        self.leasts[way] = least
         self.set_outlet(tank, self.amount(tank) + amount, self.marked(tank) + least)
+        return way
 
     def pour(self, origin, goal, amount):
         """Grains are poured; by the course at hand as few marked ones as may be go along."""
@@ -78,9 +86,8 @@ class Courses:
         self.forget_limits()
         way = self.outlets[tank]
         place = len(self.ways)
-        self.ways.append([way ^ 1])
         # The outlet itself becomes the way to the new place, so no worn-out ways pile up.
-        self.ways[OUTSIDE].remove(way ^ 1)
+        self.ways.append([way ^ 1])
         self.goals[way] = place
         self.rooms[way] = most - marked
         self.rooms[way ^ 1] = marked - least
@@ -88,39 +95,107 @@ class Courses:
 
     def found(self, tank, least, most):
         """Whether so many may be in the tank now; if so, only courses by which they are stay."""
-        # Refused findings don't count among the 256, so there may be thousands of one tank.
-        if least > self.highest.get(tank, least) or most < self.lowest.get(tank, most):
-            return False
-        marked = self.bring(tank, least, most)
-        if marked < least:
-            self.highest[tank] = marked
-            return False
-        if marked > most:
-            self.lowest[tank] = marked
+        marked = self.bring(1 << tank, least, most)
+        if marked < least or marked > most:
             return False
         self.go_on(tank, self.amount(tank), marked, least, most)
         return True
 
+    def narrow(self, way, least, most):
+        """Whether so many may have come in along the way; if so, only courses by which they did stay."""
+        lowest = self.leasts[way]
+        highest = lowest + self.rooms[way ^ 1] + self.rooms[way]
+        marked = self.bring_coming(way, least, most)
+        # No course is lost by bounds that none goes beyond; the next refusal is then seen at once.
+        if marked < least:
+            self.set_bounds(way, lowest, marked, marked)
+            return False
+        if marked > most:
+            self.set_bounds(way, marked, marked, highest)
+            return False
+        if lowest < least or most < highest:
+            self.forget_limits()
+            self.set_bounds(way, max(lowest, least), marked, min(highest, most))
+        return True
+
+    def set_bounds(self, way, least, marked, most):
+        """From least to most come in along the way, so many of them by the course at hand."""
+        self.leasts[way] = least
+        self.rooms[way] = most - marked
+        self.rooms[way ^ 1] = marked - least
+
+    def most(self, chosen):
+        """The most marked grains that may be in the tanks whose bits are in chosen, together."""
+        if chosen not in self.highest:
+            amount = sum([self.amount(tank) for tank in self.members(chosen)])
+            self.highest[chosen] = self.bring(chosen, amount, amount)
+        return self.highest[chosen]
+
+    def least(self, chosen):
+        """The least marked grains that may be in the tanks whose bits are in chosen, together."""
+        if chosen not in self.lowest:
+            self.lowest[chosen] = self.bring(chosen, 0, 0)
+        return self.lowest[chosen]
+
     def forget_limits(self):
-        """What was learned of the most and least in each tank is no longer so."""
+        """What was learned of the most and least in sets of tanks is no longer so."""
         self.highest = {}
         self.lowest = {}
 
-    def bring(self, tank, least, most):
-        """Turn to a course by which the tank has from least to most, or is as near as may be."""
-        outlet = self.outlets[tank]
-        place = self.place_of(tank)
-        amount = self.amount(tank)
-        marked = self.marked(tank)
-        # Shut while pushing: what is pushed would else go in or out by the outlet itself.
-        self.rooms[outlet] = 0
-        self.rooms[outlet ^ 1] = 0
+    def members(self, chosen):
+        """The tanks whose bits are in chosen."""
+        return [tank for tank in range(len(self.outlets)) if chosen >> tank & 1]
+
+    def bring(self, chosen, least, most):
+        """Turn to a course by which the chosen tanks have from least to most, or as near as may be."""
+        # Refused findings don't count among the 256, so there may be thousands of one tank.
+        if chosen in self.highest and least > self.highest[chosen]:
+            return self.highest[chosen]
+        if chosen in self.lowest and most < self.lowest[chosen]:
+            return self.lowest[chosen]
+        marked = sum([self.marked(tank) for tank in self.members(chosen)])
         if marked < least:
-            marked += self.push(OUTSIDE, place, least - marked)
+            self.part_outlets(chosen)
+            marked += self.push(OUTSIDE, GATHERED, least - marked)
+            if marked < least:
+                self.highest[chosen] = marked
         elif marked > most:
-            marked -= self.push(place, OUTSIDE, marked - most)
-        self.set_outlet(tank, amount, marked)
+            self.part_outlets(chosen)
+            marked -= self.push(GATHERED, OUTSIDE, marked - most)
+            if marked > most:
+                self.lowest[chosen] = marked
         return marked
+
+    def bring_coming(self, way, least, most):
+        """Turn to a course by which from least to most came in along the way, or as near as may be."""
+        marked = self.leasts[way] + self.rooms[way ^ 1]
+        if marked < least:
+            return marked + self.push_along(way, least - marked)
+        if marked > most:
+            return marked - self.push_along(way ^ 1, marked - most)
+        return marked
+
+    def push_along(self, way, wanted):
+        """Push more along this very way, up to those wanted: how many were pushed."""
+        more = self.rooms[way]
+        fewer = self.rooms[way ^ 1]
+        # Shut while pushing: what is pushed on would else come back by the way itself.
+        self.rooms[way] = 0
+        self.rooms[way ^ 1] = 0
+        self.part_outlets(0)
+        pushed = self.push(self.goals[way], self.goals[way ^ 1], min(wanted, more))
+        self.rooms[way] = more - pushed
+        self.rooms[way ^ 1] = fewer + pushed
+        return pushed
+
+    def part_outlets(self, chosen):
+        """Let the outlets of the chosen tanks end in the gathering place and all others outside."""
+        self.ways[OUTSIDE] = list(self.leasts)
+        self.ways[GATHERED] = []
+        for tank, outlet in enumerate(self.outlets):
+            goal = GATHERED if chosen >> tank & 1 else OUTSIDE
+            self.goals[outlet] = goal
+            self.ways[goal].append(outlet ^ 1)
 
     def push(self, origin, goal, wanted):
         """Push more marked ones from origin to goal, up to those wanted: how many were pushed."""

@@ -15,17 +15,25 @@ START = 0
 COME_IN = 1
 POUR = 2
 FOUND = 3
+NARROW = 4
+HAS = 5
+MOST = 6
 
 # How many numbers a call has, its own number among them.
-LENGTHS = (2, 5, 4, 4)
+LENGTHS = (2, 5, 4, 4, 4, 2, 2, 2)
 
 
 class Session:
-    """The tanks since the last start that was answered 0."""
+    """The tanks since the last start that was answered 0.
+
+    Comings in, pourings and findings are events; comings has the way of each coming in, by
+    its number among the events.
+    """
 
     def __init__(self):
         self.tanks = 0
         self.events = 0
+        self.comings = {}
         self.courses = Courses(0)
 
     def answer(self, call):
@@ -36,7 +44,15 @@ class Session:
             return self.come_in(call[1], call[2], call[3], call[4])
         if call[0] == POUR:
             return self.pour(call[1], call[2], call[3])
-        return self.found(call[1], call[2], call[3])
+        if call[0] == FOUND:
+            return self.found(call[1], call[2], call[3])
+        if call[0] == NARROW:
+            return self.narrow(call[1], call[2], call[3])
+        if call[0] == HAS:
+            return self.has(call[1])
+        if call[0] == MOST:
+            return self.most(call[1])
+        return self.least(call[1])
 
     def start(self, tanks):
         """Begin anew with so many empty tanks."""
@@ -44,6 +60,7 @@ class Session:
             return WRONG
         self.tanks = tanks
         self.events = 0
+        self.comings = {}
         self.courses = Courses(tanks)
         return 0
 
@@ -55,7 +72,7 @@ class Session:
             return WRONG
         if self.events == MOST_EVENTS:
             return FULL
-        self.courses.come_in(tank, amount, least, most)
+        self.comings[self.events] = self.courses.come_in(tank, amount, least, most)
         return self.count_event()
 
     def pour(self, origin, goal, amount):
@@ -78,6 +95,36 @@ class Session:
         if not self.courses.found(tank, least, most):
             return CANNOT_BE
         return self.count_event()
+
+    def narrow(self, which, least, most):
+        """From least to most marked grains came in by the coming in of this number."""
+        if which not in self.comings or least > most:
+            return WRONG
+        if not self.courses.narrow(self.comings[which], least, most):
+            return CANNOT_BE
+        return 0
+
+    def has(self, tank):
+        """How many grains are in the tank."""
+        if tank >= self.tanks:
+            return WRONG
+        return self.courses.amount(tank)
+
+    def most(self, chosen):
+        """The most marked grains that may be in the chosen tanks together."""
+        if not self.all_there(chosen):
+            return WRONG
+        return self.courses.most(chosen)
+
+    def least(self, chosen):
+        """The least marked grains that may be in the chosen tanks together."""
+        if not self.all_there(chosen):
+            return WRONG
+        return self.courses.least(chosen)
+
+    def all_there(self, chosen):
+        """Whether there is a tank for each bit in chosen."""
+        return chosen >> self.tanks == 0
 
     def count_event(self):
         """Count one more of what came in, was poured or found: how many there were before."""

@@ -1,4 +1,4 @@
-"""start, in and pour: promise 1, without has."""
+"""start, in and pour: promise 1 (its has is among the questions)."""
 
 import unittest
 
